@@ -1,0 +1,1 @@
+"""Weather told in code: short reports, read strictly."""
