@@ -4,31 +4,10 @@ import itertools
 import random
 import unittest
 
+from tests.faults import with_a_fault
 from tests.oracle import KINDS, MANNERS, RAIN, WEATHER, draw_report, is_report
 from tests.samples import bytes_of, text_of
 from weathercode.reports import read
-
-SIGNS = " +-/0123456789=ABCDEFGHIJKLMNOPQRSTUVWXYZ"
-
-
-def with_a_fault(source, text):
-    """The text with one sign or one word otherwise; now and then that is a report's, too."""
-    place = source.randrange(len(text))
-    words = text[:-1].split(" ")
-    one, other = source.randrange(len(words)), source.randrange(len(words))
-    near = [str((int(text[place]) + 1) % 10)] if text[place].isdigit() else ["M", "-"]
-    swapped = list(words)
-    swapped[one], swapped[other] = words[other], words[one]
-    return source.choice([
-        text[:place] + source.choice(SIGNS) + text[place + 1:],
-        text[:place] + source.choice(near) + text[place + 1:],
-        text[:place] + text[place + 1:],
-        text[:place] + source.choice(SIGNS) + text[place:],
-        " ".join(swapped) + "=",
-        " ".join(words[:one] + words[one + 1:]) + "=",
-        " ".join(words[:one] + [words[other]] + words[one:]) + "=",
-        " ".join(words[:one] + [words[other]] + words[one + 1:]) + "=",
-    ])
 
 
 class Drawn(unittest.TestCase):

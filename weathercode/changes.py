@@ -1,13 +1,15 @@
 """What is about to change: nothing told, NOSIG, or changes."""
 
-from weathercode.measures import CAVOK, from_of, sight_of, till_of
-from weathercode.sky import take_sky
-from weathercode.weather import changed_weather_of
-from weathercode.wind import wind_of
+from weathercode.figures import insist
+from weathercode.measures import CAVOK, CAVOK_WORD, from_of, sight_of, tell_from, tell_sight, tell_till, till_of
+from weathercode.sky import take_sky, tell_sky
+from weathercode.weather import changed_weather_of, tell_changed_weather
+from weathercode.wind import tell_wind, wind_of
 from weathercode.words import NotReport
 
 NOTHING_MORE = 0
 NO_CHANGE = 1
+NO_CHANGE_WORD = "NOSIG"
 CHANGES = 2
 MANNERS_OF_CHANGE = ("BECMG", "TEMPO")
 MOST_CHANGES = 3
@@ -50,7 +52,7 @@ def take_change(cursor):
 def take_trend(cursor):
     if cursor.at_end():
         return [NOTHING_MORE, 0]
-    if cursor.word() == "NOSIG":
+    if cursor.word() == NO_CHANGE_WORD:
         cursor.advance()
         return [NO_CHANGE, 0]
     count = 0
@@ -59,3 +61,45 @@ def take_trend(cursor):
         count += 1
         numbers.extend(take_change(cursor))
     return [CHANGES, count] + numbers
+
+
+def told_if_any(figures, teller):
+    return [] if figures.passes(NOT_TOLD) else teller(figures)
+
+
+def tell_changed_wind(figures):
+    return [] if figures.take(0, 1) == 0 else tell_wind(figures)
+
+
+def tell_changed(figures):
+    wind = tell_changed_wind(figures)
+    sight = told_if_any(figures, tell_sight)
+    weather = told_if_any(figures, tell_changed_weather)
+    sky = told_if_any(figures, tell_sky)
+    insist(sight != [CAVOK_WORD] or len(weather + sky) == 0)
+    words = wind + sight + weather + sky
+    insist(len(words) > 0)
+    return words
+
+
+def tell_change(figures):
+    manner = figures.take(1, len(MANNERS_OF_CHANGE))
+    begins = told_if_any(figures, tell_from)
+    ends = told_if_any(figures, tell_till)
+    return [MANNERS_OF_CHANGE[manner - 1]] + begins + ends + tell_changed(figures)
+
+
+def tell_changes(figures):
+    words = []
+    count = figures.take(1, MOST_CHANGES)
+    for turn in range(count):
+        words.extend(tell_change(figures))
+    return words
+
+
+def tell_trend(figures):
+    kind = figures.take(NOTHING_MORE, CHANGES)
+    if kind == CHANGES:
+        return tell_changes(figures)
+    figures.take(0, 0)
+    return [] if kind == NOTHING_MORE else [NO_CHANGE_WORD]

@@ -1,9 +1,16 @@
 """Station, times, sight, degrees and pressure: each a word by itself."""
 
+from weathercode.figures import digits, insist
 from weathercode.words import number_within
 
 LETTERS = "ABCDEFGHIJKLMNOPQRSTUVWXYZ"
 CAVOK = 10000
+CAVOK_WORD = "CAVOK"
+FROM = "FM"
+TILL = "TL"
+MOST_DEGREES = 60
+LEAST_PRESSURE = 850
+MOST_PRESSURE = 1100
 
 
 def station_of(word):
@@ -34,11 +41,11 @@ def marked_minutes(word, mark):
 
 
 def from_of(word):
-    return marked_minutes(word, "FM")
+    return marked_minutes(word, FROM)
 
 
 def till_of(word):
-    return marked_minutes(word, "TL")
+    return marked_minutes(word, TILL)
 
 
 def metres_fit(metres):
@@ -50,7 +57,7 @@ def metres_fit(metres):
 
 
 def sight_of(word):
-    if word == "CAVOK":
+    if word == CAVOK_WORD:
         return CAVOK
     metres = number_within(word, 4, 0, 9999)
     return metres if metres is not None and metres_fit(metres) else None
@@ -58,9 +65,9 @@ def sight_of(word):
 
 def degree_of(part):
     if part.startswith("M"):
-        below = number_within(part[1:], 2, 1, 60)
+        below = number_within(part[1:], 2, 1, MOST_DEGREES)
         return None if below is None else -below
-    return number_within(part, 2, 0, 60)
+    return number_within(part, 2, 0, MOST_DEGREES)
 
 
 def degrees_of(word):
@@ -77,4 +84,52 @@ def degrees_of(word):
 def pressure_of(word):
     if not word.startswith("Q"):
         return None
-    return number_within(word[1:], 4, 850, 1100)
+    return number_within(word[1:], 4, LEAST_PRESSURE, MOST_PRESSURE)
+
+
+def tell_station(figures):
+    first = ord(LETTERS[0])
+    last = ord(LETTERS[-1])
+    return ["".join([LETTERS[figures.take(first, last) - first] for turn in range(4)])]
+
+
+def tell_moment(figures):
+    day = figures.take(1, 31)
+    hour = figures.take(0, 23)
+    minute = figures.take(0, 59)
+    return [digits(day, 2) + digits(hour, 2) + digits(minute, 2) + "Z"]
+
+
+def tell_marked_minutes(figures, mark):
+    minutes = figures.take(0, 24 * 60 - 1)
+    return [mark + digits(minutes // 60, 2) + digits(minutes % 60, 2)]
+
+
+def tell_from(figures):
+    return tell_marked_minutes(figures, FROM)
+
+
+def tell_till(figures):
+    return tell_marked_minutes(figures, TILL)
+
+
+def tell_sight(figures):
+    metres = figures.take(0, CAVOK)
+    if metres == CAVOK:
+        return [CAVOK_WORD]
+    insist(metres_fit(metres))
+    return [digits(metres, 4)]
+
+
+def degree_text(degree):
+    return "M" + digits(-degree, 2) if degree < 0 else digits(degree, 2)
+
+
+def tell_degrees(figures):
+    upper = figures.take(-MOST_DEGREES, MOST_DEGREES)
+    lower = figures.take(-MOST_DEGREES, upper)
+    return [degree_text(upper) + "/" + degree_text(lower)]
+
+
+def tell_pressure(figures):
+    return ["Q" + digits(figures.take(LEAST_PRESSURE, MOST_PRESSURE), 4)]

@@ -1,28 +1,32 @@
 """The sky: nothing of note, an upright sight, or layers of clouds."""
 
+from weathercode.figures import digits, insist
 from weathercode.words import number_within
 
 CLEAR = 0
+CLEAR_WORD = "NSC"
 UPRIGHT = 1
 LAYERED = 2
 COVERS = ("FEW", "SCT", "BKN", "OVC")
 CLOUDS = ("", "CB", "TCU")
 OVERCAST = 4
 MOST_LAYERS = 4
+MOST_UPRIGHT = 100
+MOST_HUNDREDS = 300
 
 
 def plain_sky_of(word):
-    if word == "NSC":
+    if word == CLEAR_WORD:
         return [CLEAR]
     if not word.startswith("VV"):
         return None
-    hundreds = number_within(word[2:], 3, 0, 100)
+    hundreds = number_within(word[2:], 3, 0, MOST_UPRIGHT)
     return None if hundreds is None else [UPRIGHT, hundreds]
 
 
 def layer_of(word):
     cover = word[:3]
-    hundreds = number_within(word[3:6], 3, 0, 300)
+    hundreds = number_within(word[3:6], 3, 0, MOST_HUNDREDS)
     cloud = word[6:]
     if cover not in COVERS or hundreds is None or cloud not in CLOUDS:
         return None
@@ -58,3 +62,29 @@ def take_sky(cursor):
     for layer in layers:
         numbers.extend(layer)
     return numbers
+
+
+def layer_text(layer):
+    return COVERS[layer[0] - 1] + digits(layer[1], 3) + CLOUDS[layer[2]]
+
+
+def tell_layers(figures):
+    layers = []
+    count = figures.take(1, MOST_LAYERS)
+    for turn in range(count):
+        cover = figures.take(1, len(COVERS))
+        hundreds = figures.take(0, MOST_HUNDREDS)
+        cloud = figures.take(0, len(CLOUDS) - 1)
+        layer = [cover, hundreds, cloud]
+        insist(layer_follows(layers, layer))
+        layers.append(layer)
+    return [layer_text(layer) for layer in layers]
+
+
+def tell_sky(figures):
+    kind = figures.take(CLEAR, LAYERED)
+    if kind == CLEAR:
+        return [CLEAR_WORD]
+    if kind == UPRIGHT:
+        return ["VV" + digits(figures.take(0, MOST_UPRIGHT), 3)]
+    return tell_layers(figures)

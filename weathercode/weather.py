@@ -1,11 +1,15 @@
 """Words of weather: a strength, a manner and kinds."""
 
+from weathercode.figures import insist
+
 LIGHT = 0
 NEITHER = 1
 HEAVY = 2
+STRENGTHS = ("-", "", "+")
 MANNERS = ("MI", "BC", "PR", "DR", "BL", "SH", "TS", "FZ")
 RAIN_KINDS = ("DZ", "RA", "SN", "SG", "PL", "GR", "GS")
 OTHER_KINDS = ("BR", "FG", "FU", "VA", "DU", "SA", "HZ", "PO", "SQ", "FC", "SS", "DS")
+NO_WEATHER_WORD = "NSW"
 MOST_KINDS = 3
 MOST_WORDS = 3
 
@@ -46,9 +50,9 @@ def weather_fits(strength, manner, kinds):
 
 
 def strength_of(word):
-    if word.startswith("-"):
+    if word.startswith(STRENGTHS[LIGHT]):
         return LIGHT
-    return HEAVY if word.startswith("+") else NEITHER
+    return HEAVY if word.startswith(STRENGTHS[HEAVY]) else NEITHER
 
 
 def weather_numbers(strength, manner, kinds):
@@ -82,7 +86,28 @@ def take_weather(cursor):
 
 
 def changed_weather_of(word):
-    if word == "NSW":
+    if word == NO_WEATHER_WORD:
         return [0]
     found = weather_of(word)
     return None if found is None else [1] + found
+
+
+def tell_weather_word(figures):
+    strength = figures.take(LIGHT, HEAVY)
+    manner_number = figures.take(0, len(MANNERS))
+    manner = "" if manner_number == 0 else MANNERS[manner_number - 1]
+    all_kinds = RAIN_KINDS + OTHER_KINDS
+    count = figures.take(0, MOST_KINDS)
+    kinds = [all_kinds[figures.take(1, len(all_kinds)) - 1] for turn in range(count)]
+    insist(weather_fits(strength, manner, kinds))
+    return STRENGTHS[strength] + manner + "".join(kinds)
+
+
+def tell_weather(figures):
+    count = figures.take(0, MOST_WORDS)
+    return [tell_weather_word(figures) for turn in range(count)]
+
+
+def tell_changed_weather(figures):
+    count = figures.take(0, 1)
+    return [NO_WEATHER_WORD] if count == 0 else [tell_weather_word(figures)]
