@@ -12,6 +12,7 @@ NO_CHANGE = 1
 NO_CHANGE_WORD = "NOSIG"
 CHANGES = 2
 MANNERS_OF_CHANGE = ("BECMG", "TEMPO")
+AT_TIMES = 2
 MOST_CHANGES = 3
 NOT_TOLD = -1
 
@@ -28,7 +29,27 @@ def list_or_not(found):
     return [NOT_TOLD] if found is None else found
 
 
-def take_changed(cursor):
+class Change:
+    def __init__(self, manner, begins, ends, wind, sight, weather, sky):
+        self.manner = manner
+        self.begins = begins
+        self.ends = ends
+        self.wind = wind
+        self.sight = sight
+        self.weather = weather
+        self.sky = sky
+
+
+class Trend:
+    def __init__(self, kind, changes):
+        self.kind = kind
+        self.changes = changes
+
+
+def take_change(cursor):
+    manner = cursor.required(change_manner_of)
+    begins = cursor.optional(from_of)
+    ends = cursor.optional(till_of)
     wind = cursor.optional(wind_of)
     sight = cursor.optional(sight_of)
     weather = None
@@ -38,29 +59,33 @@ def take_changed(cursor):
         sky = take_sky(cursor)
     if wind is None and sight is None and weather is None and sky is None:
         raise NotReport("a change of nothing")
-    wind_numbers = [0] if wind is None else [1] + wind
-    return wind_numbers + [told_or_not(sight)] + list_or_not(weather) + list_or_not(sky)
-
-
-def take_change(cursor):
-    manner = cursor.required(change_manner_of)
-    begins = told_or_not(cursor.optional(from_of))
-    ends = told_or_not(cursor.optional(till_of))
-    return [manner, begins, ends] + take_changed(cursor)
+    return Change(manner, begins, ends, wind, sight, weather, sky)
 
 
 def take_trend(cursor):
     if cursor.at_end():
-        return [NOTHING_MORE, 0]
+        return Trend(NOTHING_MORE, [])
     if cursor.word() == NO_CHANGE_WORD:
         cursor.advance()
-        return [NO_CHANGE, 0]
-    count = 0
-    numbers = []
-    while count < MOST_CHANGES and not cursor.at_end():
-        count += 1
-        numbers.extend(take_change(cursor))
-    return [CHANGES, count] + numbers
+        return Trend(NO_CHANGE, [])
+    changes = []
+    while len(changes) < MOST_CHANGES and not cursor.at_end():
+        changes.append(take_change(cursor))
+    return Trend(CHANGES, changes)
+
+
+def change_numbers(change):
+    times = [told_or_not(change.begins), told_or_not(change.ends)]
+    wind = [0] if change.wind is None else [1] + change.wind
+    seen = [told_or_not(change.sight)] + list_or_not(change.weather) + list_or_not(change.sky)
+    return [change.manner] + times + wind + seen
+
+
+def trend_numbers(trend):
+    numbers = [trend.kind, len(trend.changes)]
+    for change in trend.changes:
+        numbers.extend(change_numbers(change))
+    return numbers
 
 
 def told_if_any(figures, teller):

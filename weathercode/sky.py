@@ -9,10 +9,12 @@ UPRIGHT = 1
 LAYERED = 2
 COVERS = ("FEW", "SCT", "BKN", "OVC")
 CLOUDS = ("", "CB", "TCU")
+BROKEN = 3
 OVERCAST = 4
 MOST_LAYERS = 4
 MOST_UPRIGHT = 100
 MOST_HUNDREDS = 300
+NO_CEILING = 999
 
 
 def plain_sky_of(word):
@@ -62,6 +64,16 @@ def take_sky(cursor):
     for layer in layers:
         numbers.extend(layer)
     return numbers
+
+
+# The ceiling of a sky that is told in numbers.
+def ceiling_of(sky):
+    if sky[0] == UPRIGHT:
+        return sky[1]
+    for k in range(2, len(sky), 3):
+        if sky[k] >= BROKEN:
+            return sky[k + 1]
+    return NO_CEILING
 
 
 def layer_text(layer):
