@@ -4,7 +4,7 @@ import itertools
 import unittest
 
 from tests.samples import bytes_of, text_of
-from weathercode.reports import least, read, write
+from weathercode.reports import least
 
 LAST = 1440
 
@@ -344,34 +344,6 @@ class Refusals(unittest.TestCase):
         self.answers(0, [], [-71])
         self.answers(1440, [], [-71])
         self.answers(1441, [], [-22])
-
-
-class NothingKept(unittest.TestCase):
-    def test_a_second_call_answers_as_the_first(self):
-        other = bytes_of(text_of(sight="0000", sky="VV000", trend="BECMG 0050"))
-        for text in (text_of(), text_of(trend="TEMPO 0500 OVC003"), text_of(trend="BECMG 0500 BECMG CAVOK TEMPO VV001"),
-                     text_of(sky=""), "", "X" * 401):
-            for minutes in (0, 60, 121, 1440, 1441):
-                handed = bytes_of(text)
-                answer = least(minutes, handed)
-                with self.subTest(text=text, minutes=minutes):
-                    self.assertEqual(handed, bytes_of(text))
-                    self.assertIs(type(answer), list)
-                    self.assertEqual({type(number) for number in answer}, {int})
-                    expected = list(answer)
-                    answer.append(7)
-                    least(30, other)
-                    read(other)
-                    write(read(other)[1:])
-                    self.assertEqual(least(minutes, handed), expected)
-                    self.assertEqual(handed, bytes_of(text))
-
-    def test_minutes_may_be_asked_in_any_order(self):
-        handed = bytes_of(text_of(trend="BECMG TL1230 0500 TEMPO FM1240 TL1250 OVC003"))
-        minutes = (0, 10, 11, 20, 30, 31, 1440)
-        upward = [least(minute, handed) for minute in minutes]
-        downward = [least(minute, handed) for minute in reversed(minutes)]
-        self.assertEqual(upward, downward[::-1])
 
 
 if __name__ == "__main__":

@@ -207,36 +207,5 @@ class Corners(OrdinaryCase):
         ])
 
 
-class NothingKept(unittest.TestCase):
-    def answers_twice(self, call, handed):
-        with self.subTest(call=call.__name__, handed=handed):
-            ahead = list(handed)
-            answer = call(handed)
-            self.assertEqual(handed, ahead)
-            self.assertIs(type(answer), list)
-            self.assertEqual({type(number) for number in answer}, {int})
-            expected = list(answer)
-            answer.append(7)
-            self.assertEqual(call(handed), expected)
-            self.assertEqual(handed, ahead)
-
-    def test_read(self):
-        for text in (text_of(), text_of(weather="-RA", sky="FEW010"), text_of(trend="BECMG CAVOK"),
-                     text_of(trend="TEMPO 0500 FG VV001"), text_of(sky=""), "", "X" * 401):
-            self.answers_twice(read, bytes_of(text))
-
-    def test_write(self):
-        for numbers in (numbers_of(), numbers_of(weather=(1, 0, 0, 1, 2), sky=(2, 1, 1, 10, 0)),
-                        numbers_of(trend=(2, 1, 1, -1, -1, 0, 10000, -1, -1)),
-                        numbers_of(trend=(2, 1, 2, -1, -1, 0, 500, 1, 1, 0, 1, 9, 1, 1)),
-                        numbers_of(sky=()), numbers_of(trend=(0, 0, 0)), [], [65] * 257):
-            self.answers_twice(write, numbers)
-
-    def test_refused_ones_leave_nothing_behind(self):
-        expected = write(numbers_of())
-        self.assertEqual(write(numbers_of()[:-1]), [-22])
-        self.assertEqual(write(numbers_of()), expected)
-
-
 if __name__ == "__main__":
     unittest.main()

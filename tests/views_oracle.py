@@ -81,7 +81,8 @@ def edges(text):
 def draw_near_time(source, mark, now):
     if source.random() < 0.35:
         return []
-    wait_minutes = source.choice([0, 1, 239, 240, 241, source.randint(0, 260), source.randint(0, DAY - 1)])
+    near = source.choice([0, 1, 239, 240, 241, *(source.randint(0, 260) for turn in range(5))])
+    wait_minutes = near if source.random() < 0.9 else source.randint(0, DAY - 1)
     hour, minute = divmod((now + wait_minutes) % DAY, 60)
     return [f"{mark}{hour:02}{minute:02}"]
 

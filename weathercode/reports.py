@@ -13,7 +13,9 @@ from weathercode.words import Cursor, NotReport, demanded, words_of
 MOST_BYTES = 400
 MOST_NUMBERS = 256
 MOST_MINUTES = 1440
+LAST_MINUTE = 240
 OUT_OF_BOUNDS = -22
+NONE_BELOW = -61
 NO_REPORT = -71
 
 
@@ -98,6 +100,13 @@ def least_at(report, minute):
     return [0, min([view[0] for view in views]), min([view[1] for view in views])]
 
 
+def first_below(report, sight, ceiling):
+    for minute in range(LAST_MINUTE + 1):
+        if any([view[0] < sight or view[1] < ceiling for view in views_at(report, minute)]):
+            return [minute]
+    return [NONE_BELOW]
+
+
 def read(t):
     return answer_of(t, counted_numbers)
 
@@ -116,3 +125,7 @@ def least(minutes, t):
     if minutes > MOST_MINUTES:
         return [OUT_OF_BOUNDS]
     return answer_of(t, lambda report: least_at(report, minutes))
+
+
+def first(sight, ceiling, t):
+    return answer_of(t, lambda report: first_below(report, sight, ceiling))
